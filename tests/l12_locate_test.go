@@ -997,8 +997,9 @@ func TestEachConsistentOriginIsInOneOfTheCubes(t *testing.T) {
 	}
 }
 
-// Promise 12, for the greatest Cubes.
-func TestEachConsistentOriginOfAGreatCubeIsInOneOfTheCubes(t *testing.T) {
+// Promise 12, for the greatest Cubes: they have too many Origins to try each one, so these are those near the source
+// of the wave, at the ticks at which they begin or cease to be consistent.
+func TestConsistentOriginsOfAGreatCubeAreInOneOfTheCubes(t *testing.T) {
 	held := 0
 	for seed := range 80 {
 		raw := numbers(seed+7000, 3, 1000)
